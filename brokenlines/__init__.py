@@ -1,0 +1,1 @@
+"""Lines: a text broken, laid, and pointed at."""

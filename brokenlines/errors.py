@@ -1,0 +1,16 @@
+"""The refusals, each an error of its own."""
+
+
+class OutOfRange(ValueError):
+    pass
+
+
+class WrongFont(ValueError):
+    def __init__(self, number, row):
+        ValueError.__init__(self, number, row)
+        self.number = number
+        self.row = row
+
+
+class TooManyLines(ValueError):
+    pass

@@ -1,0 +1,106 @@
+"""The largest pieces of work that may be handed in end in ordinary time."""
+
+import random
+import time
+import unittest
+
+from brokenlines.laying import letters, lines
+
+SECONDS = 20
+
+
+def font(*rows):
+    return list("".join(row + "\n" for row in rows).encode())
+
+
+FONT = font("font 1000 800 200 100", "letter no 600", "letter a 500", "letter b 620", "letter sp 250", "letter z 0",
+            "char 97 a", "char 98 b", "char 32 sp", "char 19969 z")
+# Letters that join three by three: lines that begin at different places never come to agree.
+THREES = font("font 1000 800 200 100", "letter a 500", "letter b 900", "letter c 1200", "join a a b", "join b a c")
+FLAT = font("font 1000 0 0 0", "letter a 1")
+
+
+def made_bands(seed, height, most):
+    chance = random.Random(seed)
+    bands = []
+    for _ in range(64):
+        top = chance.randint(0, height)
+        bands += [top, min(2 ** 24, top + chance.randint(1, height // 20)), chance.randint(0, most),
+                  chance.randint(0, most)]
+    return bands
+
+
+def words():
+    chance = random.Random(7)
+    text = []
+    while len(text) < 4096:
+        text += [chance.choice((97, 98)) for _ in range(chance.randint(1, 9))] + [32]
+    return text[:4096]
+
+
+class LargeTest(unittest.TestCase):
+    def ends(self, text, wide, bands, font=FONT, side=2, spans=None, boxes=(), size=640):
+        for way in (0, 1):
+            given = [side, wide, 100, 3, way, spans or [len(text), 0, size], list(boxes), bands, text, [font]]
+            for call in (lines, letters):
+                start = time.monotonic()
+                answer = call(*given)
+                self.assertLess(time.monotonic() - start, SECONDS, (call, way, wide))
+                self.assertTrue(answer == [-6] or len(answer) == 1 + 6 * answer[0])
+
+    def test_words(self):
+        text = words()
+        for wide in (0, 1000, 6000, 20000, 2 ** 24):
+            for bands in ([], made_bands(1, 60000, 300), made_bands(2, 2500000, 700), made_bands(3, 400000, wide // 2)):
+                self.ends(text, wide, bands)
+
+    def test_places_everywhere(self):
+        text = [19968] * 4096
+        for wide in (0, 500, 1300, 20000, 1000000):
+            for bands in ([], made_bands(2, 2500000, 700), made_bands(3, 400000, wide // 2)):
+                self.ends(text, wide, bands)
+
+    def test_letters_of_no_width(self):
+        for wide in (0, 1000):
+            for bands in ([], made_bands(2, 2500000, 700)):
+                self.ends([19969] * 4096, wide, bands)
+
+    def test_joins_that_never_agree(self):
+        for wide in (700, 20000):
+            for bands in ([], made_bands(2, 2500000, 700)):
+                self.ends([19968] * 4096, wide, bands, font=THREES)
+
+    def test_many_paragraphs(self):
+        for text in ([10] * 4096, [97, 10] * 2048, [97, 32, 98, 10] * 1024, [97, 32, 173, 1488, 32, 49, 98, 10] * 512):
+            self.ends(text, 1500, made_bands(2, 2500000, 700))
+
+    def test_many_spans_and_boxes(self):
+        self.ends([97, 32, 98, 32] * 1024, 3000, made_bands(2, 2500000, 700), spans=[1, 0, 640] * 4096)
+        self.ends([65532, 32] * 2048, 2 ** 24, made_bands(2, 2 ** 24, 2 ** 23), boxes=[2 ** 20] * 6144)
+        self.ends([65532] * 4096, 2 ** 24, made_bands(2, 2 ** 24, 2 ** 23), boxes=[2 ** 20] * 12288)
+
+    def test_isolates(self):
+        self.ends([8296] * 4095 + [1488], 1000, [])
+        self.ends([8296] * 2000 + [1488] + [8297] * 2095, 1000, [])
+        self.ends([8294, 97, 32, 8295, 1488, 32, 49, 8297] * 512, 5000, made_bands(2, 2500000, 700))
+
+    def test_lines_without_end(self):
+        bands = [0, 2 ** 24, 0, 0] * 64
+        self.ends([19968] * 4096, 0, bands, font=FLAT, size=1000)
+        self.ends([19968] * 4096, 0, made_bands(5, 2 ** 24, 5), font=FLAT, size=1000)
+        for way in (0, 1):
+            given = [0, 0, 0, 0, way, [4096, 0, 1000], [], bands, [19968] * 4096, [FLAT]]
+            self.assertEqual(lines(*given), [-6])
+            self.assertEqual(letters(*given)[1], 2 ** 24)
+
+    def test_largest_fonts(self):
+        rows = ["font 16384 32767 32767 32767"] + ["letter l%d 32767" % number for number in range(700)]
+        rows += ["pair l%d l%d -32768" % (number, number + 1) for number in range(600)]
+        data = font(*rows)
+        self.assertLess(len(data), 29000)
+        given = [0, 5, 0, 3, 1, [4096, 3, 65536], [], [], [19968, 97] * 2048, [data] * 4]
+        self.assertGreater(lines(*given)[0], 0)
+
+
+if __name__ == "__main__":
+    unittest.main()

@@ -1,0 +1,96 @@
+"""The package against the document's words written down plainly, on pieces of work that are made up."""
+
+import random
+import unittest
+
+from brokenlines.laying import letters, lines
+from plain import Plain
+
+MIXED = [97, 98, 99, 100, 32, 45, 40, 41, 48, 49, 173, 1488, 1489, 1490, 1600, 1601, 1632, 769, 1425, 19968, 19969,
+         8203, 160, 46, 65532, 8294, 8295, 8296, 8297, 10]
+POOLS = ([97, 98, 32, 32, 173, 45, 769], [1488, 1489, 32, 97, 98, 48, 173, 769, 40], MIXED,
+         [97, 98, 19968, 19969, 19970, 32])
+
+
+def two_names(chance, names, most):
+    return sorted({(chance.choice(names), chance.choice(names)) for _ in range(chance.randint(0, most))})
+
+
+def made_font(chance):
+    rows = ["font %d %d %d %d" % (chance.choice([1, 3, 10, 16, 1000]), chance.randint(0, 12), chance.randint(0, 5),
+                                  chance.randint(0, 3))]
+    names = ["l%d" % number for number in range(chance.randint(1, 9))]
+    rows += ["letter %s %d" % (name, chance.choice([0, 0, 1, 5, 7, 10, 10, 20])) for name in names]
+    rows += ["char %d %s" % (code, chance.choice(names)) for code in MIXED if chance.random() < 0.7]
+    if chance.random() < 0.6:
+        rows += ["pair %s %s %d" % (a, b, chance.randint(-8, 8)) for a, b in two_names(chance, names, 8)]
+    if chance.random() < 0.5:
+        rows += ["join %s %s %s" % (a, b, chance.choice(names)) for a, b in two_names(chance, names, 5)]
+    if chance.random() < 0.6:
+        for name in names:
+            for kind in (0, 1):
+                if chance.random() < 0.5:
+                    rows.append("base %s %d %d %d" % (name, kind, chance.randint(-5, 5), chance.randint(-5, 5)))
+            if chance.random() < 0.4:
+                rows.append("mark %s %d %d %d" % (name, chance.randint(0, 1), chance.randint(-5, 5),
+                                                  chance.randint(-5, 5)))
+    return list("".join(row + "\n" for row in rows).encode())
+
+
+def made_spans(chance, length, fonts):
+    spans = []
+    while length > 0 or chance.random() < 0.2:
+        part = min(length, chance.choice([0, 1, 2, 5, length, length]))
+        spans += [part, chance.randrange(fonts), chance.choice([1, 5, 10, 10, 16, 30])]
+        length -= part
+    return spans
+
+
+def made_piece(seed, longest):
+    chance = random.Random(seed)
+    pool = list(chance.choice(POOLS)) + [10] * (chance.random() < 0.2) + [65532] * (chance.random() < 0.2)
+    text = [chance.choice(pool) for _ in range(chance.randint(0, longest))]
+    fonts = [made_font(chance) for _ in range(chance.randint(1, 3))]
+    boxes = []
+    for _ in range(text.count(65532)):
+        boxes += [chance.randint(0, 40), chance.randint(0, 10), chance.randint(0, 4)]
+    bands = []
+    for _ in range(chance.choice([0, 0, 1, 2, 5])):
+        top = chance.randint(0, 80)
+        bands += [top, max(0, top + chance.randint(-3, 40)), chance.choice([0, 0, 5, 20, 60]),
+                  chance.choice([0, 0, 5, 20])]
+    return [chance.choice([0, 1, 2, 2]), chance.choice([0, 10, 30, 50, 50, 80, 120, 400, 70000, 200000]),
+            chance.choice([0, 0, 7, 20]), chance.randint(0, 3), chance.randint(0, 1),
+            made_spans(chance, len(text), len(fonts)), boxes, bands, text, fonts]
+
+
+class PlainTest(unittest.TestCase):
+    def compare(self, seeds, longest):
+        for seed in seeds:
+            given = made_piece(seed, longest)
+            wanted = Plain(*given)
+            self.assertEqual(lines(*given), wanted.lines(), seed)
+            self.assertEqual(letters(*given), wanted.letters(), seed)
+            few = all(len(wanted.ends(start, stop)) <= 9 for start, stop, _ in wanted.paras)
+            if given[4] == 1 and few:
+                self.assertEqual(lines(*given), wanted.lines(whole=True), seed)
+
+    def test_short_texts(self):
+        self.compare(range(1200), 24)
+
+    def test_longer_texts(self):
+        self.compare(range(5000, 5040), 70)
+
+    def test_joins_that_never_agree(self):
+        rows = "font 10 8 2 1\nletter a 10\nletter b 17\nletter c 21\njoin a a b\njoin b a c\n"
+        text = [19968] * 100 + [97] + [19968] * 20
+        for wide in (0, 25, 60, 500):
+            for bands in ([], [0, 40, 7, 5, 60, 90, 0, 30]):
+                given = [0, wide, 4, 3, 1, [121, 0, 10], [], bands, text, [list(rows.encode())]]
+                self.assertEqual(lines(*given), Plain(*given).lines())
+                given[4] = 0
+                self.assertEqual(letters(*given), Plain(*given).letters())
+
+
+if __name__ == "__main__":
+    unittest.main()
