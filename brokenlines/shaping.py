@@ -94,31 +94,24 @@ def grouped(font, glyphs):
     return groups
 
 
-def place_marks(face, group, spot):
+def place_marks(face, group):
     for glyph in group[1:]:
         offset = face.offset_of(group[0].letter, glyph.letter)
-        glyph.x = spot + offset[0]
+        glyph.x = group[0].x + offset[0]
         glyph.up = offset[1]
 
 
-# A mark of room 0 that isn't its stretch's first stands where the letter seen before it does, placed or not;
-# what it adds to the width is as for any other letter.
 def place_groups(face, groups, is_odd, shape):
     before = None
-    spot = shape.width
     for group in groups:
         head = group[0]
-        letter = head.letter
         if before is not None:
-            shape.width += face.pair_of(letter, before) if is_odd else face.pair_of(before, letter)
-        room = face.room_of(letter)
-        if before is None or room > 0 or letter not in face.font.marks:
-            spot = shape.width
-        head.x = spot
-        place_marks(face, group, spot)
-        shape.width += room
+            shape.width += face.pair_of(head.letter, before) if is_odd else face.pair_of(before, head.letter)
+        head.x = shape.width
+        place_marks(face, group)
+        shape.width += face.room_of(head.letter)
         shape.glyphs.extend(group)
-        before = letter
+        before = head.letter
 
 
 def place_box(script, place, shape):

@@ -313,9 +313,8 @@ class Plain:
                 two = (letter, before) if odd else (before, letter)
                 x += font.scaled(font.pairs.get(two, 0), size)
             room = font.scaled(font.width[letter], size)
-            if not (out and room == 0 and letter in font.marks):
-                stands = x
-            out.append([span, letter, place, stands, 0])
+            stands = x
+            out.append([span, letter, place, x, 0])
             x += room
             before = letter
         return out, x

@@ -128,6 +128,17 @@ class FontTest(unittest.TestCase):
         self.assertEqual(self.answer(font(*rows)), -2 - 65537)
         self.assertEqual(self.answer(font(*rows[:-1])), 1)
 
+    def test_most_bytes(self):
+        names = ["l%030d" % number for number in range(120)]
+        rows = [HEAD] + ["letter %s 1" % name for name in names]
+        rows += ["join %s %s %s" % (first, second, first) for first in names for second in names]
+        taken, used = 0, 0
+        while used + len(rows[taken]) + 1 <= 1048576:
+            used += len(rows[taken]) + 1
+            taken += 1
+        self.right(*rows[:taken])
+        self.wrong(*rows[:taken + 1])
+
 
 if __name__ == "__main__":
     unittest.main()

@@ -213,20 +213,20 @@ class MarkTest(unittest.TestCase):
         self.assertEqual(seen([97, BET, ACUTE]), [(1, 0, 0), (8, 2, 10), (11, 1, 10)])
 
     def test_room_0_within_a_stretch(self):
-        # Not placed, it stands where the one that is seen before it does.
+        # Not placed, it's as any other, and takes no room since it has none.
         self.assertEqual(letters_of([97, 98, ACUTE, 97]), [
-            (0, 0, 1, 0, 0, 8), (0, 0, 2, 1, 8, 8), (0, 0, 8, 2, 8, 8), (0, 0, 1, 3, 28, 8)])
-        self.assertEqual(seen([BET, ACUTE, ALEF]), [(10, 2, 0), (8, 1, 0), (11, 0, 12)])
-        self.assertEqual(seen([ACUTE, BET], side=1, wide=14), [(11, 1, 0), (8, 0, 0)])
-        self.assertEqual(seen([98, ACUTE, ACUTE]), [(2, 0, 0), (8, 1, 0), (8, 2, 0)])
+            (0, 0, 1, 0, 0, 8), (0, 0, 2, 1, 8, 8), (0, 0, 8, 2, 28, 8), (0, 0, 1, 3, 28, 8)])
+        self.assertEqual(seen([BET, ACUTE, ALEF]), [(10, 2, 0), (8, 1, 12), (11, 0, 12)])
+        self.assertEqual(seen([ACUTE, BET], side=1, wide=14), [(11, 1, 0), (8, 0, 14)])
+        self.assertEqual(seen([98, ACUTE, ACUTE]), [(2, 0, 0), (8, 1, 20), (8, 2, 20)])
         rows = ("font 10 8 2 1", "letter a 10", "letter m 0", "letter n 0", "char 97 a", "char 109 m", "char 110 n",
                 "base a 0 7 7", "mark m 0 2 3", "mark n 1 0 0", "pair a n 4", "pair n a 5")
         self.assertEqual(letters_of("amna", fonts=[font(*rows)]), [
-            (0, 0, 0, 0, 0, 8), (0, 0, 1, 1, 5, 4), (0, 0, 2, 2, 0, 8), (0, 0, 0, 3, 19, 8)])
+            (0, 0, 0, 0, 0, 8), (0, 0, 1, 1, 5, 4), (0, 0, 2, 2, 14, 8), (0, 0, 0, 3, 19, 8)])
 
     def test_room_0_only_when_scaled(self):
         rows = font("font 100 8 2 1", "letter a 100", "letter m 40", "char 97 a", "char 109 m", "mark m 0 0 0")
-        self.assertEqual(seen("ama", spans=[3, 0, 1], fonts=[rows]), [(0, 0, 0), (1, 1, 0), (0, 2, 1)])
+        self.assertEqual(seen("ama", spans=[3, 0, 1], fonts=[rows]), [(0, 0, 0), (1, 1, 1), (0, 2, 1)])
         self.assertEqual(seen("ama", spans=[3, 0, 2], fonts=[rows]), [(0, 0, 0), (1, 1, 2), (0, 2, 3)])
 
     def test_room_0_and_no_mark(self):
@@ -266,7 +266,7 @@ class JustifiedTest(unittest.TestCase):
         rows = ["font 10 8 2 1", "letter a 10", "letter sp 5", "letter m 0", "char 97 a", "char 32 sp", "char 769 m",
                 "mark m 0 1 1"]
         text = [97, 32, ACUTE, 97, 32, 97, 97, 97]
-        self.assertEqual(self.first(text, wide=32, fonts=[font(*rows)]), [(0, 0), (1, 10), (2, 17), (3, 22)])
+        self.assertEqual(self.first(text, wide=32, fonts=[font(*rows)]), [(0, 0), (1, 10), (2, 22), (3, 22)])
 
     def test_hyphen_and_box(self):
         text = [97, 32, BOX, SHY, 97, 97]

@@ -162,6 +162,14 @@ class WayOneTest(unittest.TestCase):
         # What is left of the first line, squared, is more than 2^32: too wide a line is better.
         self.assertEqual(cuts_of([97, 32, BOX], wide=65546, boxes=[65536, 0, 0], way=1), [(0, 2), (2, 3)])
         self.assertEqual(cuts_of([97, 32, BOX], wide=65547, boxes=[65537, 0, 0], way=1), [(0, 3)])
+        # Nearest of all: 2^32 left squared, or too much by 1.
+        thin = font("font 10 8 2 1", "letter none 10", "letter sp 1", "char 32 sp")
+        self.assertEqual(cuts_of([97, 32, BOX], wide=65546, boxes=[65536, 0, 0], way=1, fonts=[thin]),
+                         [(0, 2), (2, 3)])
+        # 2^32 and 1 both ways, with three lines or two.
+        boxes = [1, 0, 0, 65536, 0, 0, 100, 0, 0]
+        self.assertEqual(cuts_of([BOX, 32, BOX, 32, BOX], wide=65537, boxes=boxes, way=1, fonts=[thin]),
+                         [(0, 4), (4, 5)])
         # One line that is too wide, or two: the squares of what's too much decide.
         boxes = [65536, 0, 0, 1, 0, 0]
         self.assertEqual(cuts_of([BOX, 0x4e00, BOX], wide=0, boxes=boxes, way=1), [(0, 3)])
@@ -197,6 +205,10 @@ class WayOneTest(unittest.TestCase):
             spans = [1, 0, 10, 1, 1, 10, 3, 0, 10]
             got = cuts_of(text, wide=5000, way=1, boxes=boxes, spans=spans, fonts=[FONT, thin])
             self.assertEqual(got, [(0, at), (at, 5)], left)
+        # With 1 left beside the hyphen that way costs 1 more.
+        boxes = [4000, 0, 0, 995, 0, 0, 6, 0, 0]
+        got = cuts_of(text, wide=5000, way=1, boxes=boxes, spans=spans, fonts=[FONT, thin])
+        self.assertEqual(got, [(0, 2), (2, 5)])
 
     def test_last_line_costs_nothing(self):
         self.assertEqual(cuts_of("aa a aa", wide=35, way=1), [(0, 5), (5, 7)])
