@@ -82,7 +82,8 @@ class PlainTest(unittest.TestCase):
         self.compare(range(5000, 5040), 70)
 
     def test_joins_that_never_agree(self):
-        rows = "font 10 8 2 1\nletter a 10\nletter b 17\nletter c 21\njoin a a b\njoin b a c\n"
+        rows = "font 10 8 2 1\nletter a 10\nletter b 17\nletter c 21\nletter d 13\n"
+        rows += "char 97 d\njoin a a b\njoin b a c\npair b d 2\n"
         text = [19968] * 100 + [97] + [19968] * 20
         for wide in (0, 25, 60, 500):
             for bands in ([], [0, 40, 7, 5, 60, 90, 0, 30]):
