@@ -23,8 +23,11 @@ class Column:
         self.slices = slices_of(work.bands, self.high)
         self.free = self.slices[-1].first
 
+    def top_of(self, line):
+        return line * self.high
+
     def y_of(self, line):
-        return line * self.high + self.up
+        return self.top_of(line) + self.up
 
     # The index of the slice that has the line.
     def slice_at(self, line):
@@ -47,6 +50,15 @@ class Column:
 
     def room_of_line(self, line, is_first):
         return self.room_in(self.slices[self.slice_at(line)], is_first)
+
+    # The first line behind this one that is touched otherwise, or has other room. There is one, down to the bands' end.
+    def other_from(self, line):
+        index = self.slice_at(line)
+        part = self.slices[index]
+        room = self.room_in(part, False)
+        while self.slices[index].is_touched == part.is_touched and self.room_in(self.slices[index], False) == room:
+            index += 1
+        return self.slices[index].first
 
     # The first line from this one on that isn't left empty, if it begins with so wide a stretch.
     def line_for(self, line, width, is_first):

@@ -1,21 +1,25 @@
 """Broken with way 1: all of a paragraph's lines together as even as can be."""
 
 from brokenlines.breaking import Cut, first_cuts
+from brokenlines.runs import Run
 from brokenlines.sums import BLOCK, Outlook, Rooms, cost_of, sum_of
+from brokenlines.trails import Trail
 
 COARSEST = 24
 
 
-# What comes to a line, by the place at which the line would begin: sum, line before, that line's beginning.
-# What has waited left lines empty; what has arrived comes from the line straight before.
-class Layer:
-    def __init__(self):
-        self.waited = {}
-        self.arrived = {}
+# Adds a way to those that come to a line at one place: of each place only the least sum is kept, of these the latest
+# beginning of the line before, and all lines at which that line may lie.
+def offer(comers, start, total, line, before):
+    known = comers.get(start)
+    if known is None or total < known[0] or total == known[0] and before > known[1]:
+        comers[start] = (total, before, [line])
+    elif total == known[0] and before == known[1]:
+        known[2].append(line)
 
 
 # Tries all ways whose sum is within the bound, line by line. Below the bands all lines are alike, so there
-# only the best way to each place is kept.
+# only the best way to each place is kept. What has left lines empty waits for the line at which it fits.
 class Search:
     def __init__(self, measure, column, outlook, bound):
         self.measure = measure
@@ -23,25 +27,28 @@ class Search:
         self.outlook = outlook
         self.bound = bound
         self.tables = {}
-        self.layers = {}
-        self.trail = {}
-        self.jumps = {}
+        self.waited = {}
+        self.trail = Trail()
         self.below = {}
         self.done = None
 
-    def layer_at(self, line):
-        return self.layers.setdefault(line, Layer())
-
     def run_from(self, line):
-        begin = self.column.line_for(line, self.measure.width_of(0, 1), True)
-        self.layer_at(begin).waited[0] = (0, begin - 1, 0)
-        while self.layers:
-            now = min(self.layers)
-            states = self.settled_at(now, self.layers.pop(now))
+        now = self.column.line_for(line, self.measure.width_of(0, 1), True)
+        self.waited[now] = {0: (0, 0, [now - 1])}
+        arrived = {}
+        while arrived or self.waited:
+            if not arrived:
+                now = min(self.waited)
+            comers = self.comers_at(now, arrived)
             if now >= self.column.free:
-                self.pass_below(now, states)
-            elif states:
-                self.pass_line(now, states)
+                self.pass_below(now, comers)
+                return
+            stop = self.column.other_from(now)
+            arrived = self.pass_run(now, stop, comers)
+            now = stop
+
+    def cost_between(self, start, end, room):
+        return cost_of(room, self.measure.width_of(start, end), end == self.measure.last)
 
     # Lines from this place that may be part of a way: their cost with what is to come at the least, end, cost.
     def find_moves(self, start, room, limit):
@@ -54,7 +61,7 @@ class Search:
         ends.append(last)
         moves = []
         for end in ends:
-            cost = cost_of(room, self.measure.width_of(start, end), end == last)
+            cost = self.cost_between(start, end, room)
             if cost + self.outlook.onward[end] <= limit:
                 moves.append((cost + self.outlook.onward[end], end, cost + self.outlook.hyphens[end]))
         return moves
@@ -70,61 +77,60 @@ class Search:
             table[start] = (self.bound, sorted(self.find_moves(start, room, self.bound)))
         return table[start][1]
 
-    # What begins at this line: what has arrived and doesn't fit waits for a later one. Of two with the same sum
-    # the one that left lines empty goes ahead, for an empty line begins where the next one does.
-    def settled_at(self, line, layer):
-        part = self.column.slices[self.column.slice_at(line)]
-        room = self.column.room_in(part, False)
-        states = {}
-        for start, entry in layer.arrived.items():
-            if part.is_touched and self.measure.width_of(start, start + 1) > room:
+    # What has arrived at a line, and what has waited for it.
+    def comers_at(self, line, arrived):
+        comers = self.waited.pop(line, {})
+        unfit = self.unfit_at(line)
+        for start, entry in arrived.items():
+            if start in unfit:
                 self.wait_from(line, start, entry)
             else:
-                states[start] = entry
-        for start, entry in layer.waited.items():
-            if start not in states or entry[0] <= states[start][0]:
-                states[start] = entry
-        return states
+                offer(comers, start, entry[0], line - 1, entry[1])
+        return comers
+
+    # The places from which the line stays empty.
+    def unfit_at(self, line):
+        part = self.column.slices[self.column.slice_at(line)]
+        if not part.is_touched:
+            return {}
+        room = self.column.room_in(part, False)
+        unfit = {}
+        for start in range(1, self.measure.last):
+            if self.measure.width_of(start, start + 1) > room:
+                unfit[start] = True
+        return unfit
 
     def wait_from(self, line, start, entry):
         later = self.column.line_for(line, self.measure.width_of(start, start + 1), False)
-        waited = self.layer_at(later).waited
-        if start not in waited or entry[0] < waited[start][0]:
-            waited[start] = entry
+        offer(self.waited.setdefault(later, {}), start, entry[0], line - 1, entry[1])
 
-    def pass_line(self, line, states):
-        self.keep_trail(line, states)
-        arrived = {}
-        for start in sorted(states):
-            total = states[start][0]
-            if total + self.least_behind(start) > self.bound:
-                continue
-            room = self.column.room_of_line(line, start == 0)
-            for move in self.moves_from(start, room, self.bound - total):
-                if total + move[0] > self.bound:
-                    break
-                there = arrived.get(move[1])
-                if there is None or total + move[2] <= there[0]:
-                    arrived[move[1]] = (total + move[2], line, start)
-        if self.measure.last in arrived:
-            self.finish(arrived.pop(self.measure.last))
-        if arrived:
-            layer = self.layer_at(line + 1)
-            layer.arrived = arrived
+    # The line before, of all at which it may lie.
+    def line_chosen(self, comer):
+        return comer[2][0] if len(comer[2]) == 1 else self.trail.best_of(comer[1], comer[2])
 
-    # Kept as lists, since there may be millions of states.
-    def keep_trail(self, line, states):
-        low = min(states)
-        starts = [0] * (max(states) - low + 1)
-        for start, entry in states.items():
-            starts[start - low] = entry[2]
-            if entry[1] != line - 1:
-                self.jumps[(line, start)] = entry[1]
-        self.trail[line] = (low, starts)
+    def pass_run(self, line, stop, comers):
+        here = {}
+        for start, comer in comers.items():
+            here[start] = (comer[0], comer[1])
+            before = self.line_chosen(comer)
+            if before == line - 1:
+                self.trail.keep(line, start, comer[1])
+            else:
+                self.trail.keep_jump(line, start, comer[1], before)
+        unfit = self.unfit_at(line)
+        run = Run(self, line, here)
+        changed = run.pass_all()
+        changed.extend([start for start in here if start not in run.arrived])
+        while run.arrived and run.line + 1 < stop:
+            for start in unfit:
+                if start in run.arrived:
+                    self.wait_from(run.line + 1, start, run.arrived[start])
+            changed = run.go_on(changed, unfit)
+        return run.arrived
 
-    def pass_below(self, line, states):
-        for start, entry in states.items():
-            self.below[start] = (entry[0], line, entry[1], entry[2])
+    def pass_below(self, line, comers):
+        for start, comer in comers.items():
+            self.below[start] = (comer[0], line, self.line_chosen(comer), comer[1])
         for start in range(self.measure.last):
             if start not in self.below or self.is_beaten(start):
                 continue
@@ -137,7 +143,7 @@ class Search:
                     self.below[move[1]] = (total + move[2], now + 1, now, start)
         if self.measure.last in self.below:
             end = self.below[self.measure.last]
-            self.finish((end[0], end[2], end[3]))
+            self.finish(end[0], end[2], end[3])
 
     def least_behind(self, start):
         return self.outlook.onward[start] - self.outlook.hyphens[start]
@@ -151,19 +157,18 @@ class Search:
         return end[0] <= here[0] + self.least_behind(start) and end[1] <= here[1]
 
     # Ways that end at a later line have more lines, so they must cost less than this.
-    def finish(self, entry):
-        if entry[0] <= self.bound:
-            self.done = entry
-            self.bound = entry[0] - 1
+    def finish(self, total, line, start):
+        if total <= self.bound:
+            self.done = (line, start)
+            self.bound = total - 1
 
     def line_before(self, line, start):
         if line >= self.column.free:
             return (self.below[start][2], self.below[start][3])
-        row = self.trail[line]
-        return (self.jumps.get((line, start), line - 1), row[1][start - row[0]])
+        return self.trail.line_before(line, start)
 
     def cuts(self):
-        cut = Cut(self.done[1], self.done[2], self.measure.last)
+        cut = Cut(self.done[0], self.done[1], self.measure.last)
         found = [cut]
         while cut.start > 0:
             before = self.line_before(cut.line, cut.start)

@@ -207,9 +207,12 @@ class Plain:
         self.gap = max([self.fonts[f].scaled(self.fonts[f].G, s) for _, f, s in self.spans], default=0)
         self.high = max(1, self.up + self.down + self.gap)
         self.shapes = {}
+        self.touched = {}
 
     def touching(self, i):
-        return [b for b in self.bands if max(b[0], i * self.high) < min(b[1], (i + 1) * self.high)]
+        if i not in self.touched:
+            self.touched[i] = [b for b in self.bands if max(b[0], i * self.high) < min(b[1], (i + 1) * self.high)]
+        return self.touched[i]
 
     def left(self, i):
         return max([b[2] for b in self.touching(i)], default=0)
@@ -221,7 +224,8 @@ class Plain:
         return max(0, self.wide - self.left(i) - self.right(i) - (self.indent if first else 0))
 
     def shape(self, a, b):
-        """Letters as seen: [span, letter, place, x, up, blank], and the width."""
+        """Letters as seen: [span, letter, place, x, up, more], and the width; more is what caret asks for: the
+        characters, the room, whether the level is odd, whether it counts as placed on the one before it."""
         if (a, b) in self.shapes:
             return self.shapes[a, b]
         text = self.text
@@ -264,7 +268,8 @@ class Plain:
         span = self.span_of[p]
         if p in self.box_of:
             n = self.box_of[p]
-            return [[span, -1 - n, p, x, 0]], x + self.boxes[n][0]
+            more = {"chars": [p], "room": self.boxes[n][0], "odd": self.level[p] % 2, "placed": False}
+            return [[span, -1 - n, p, x, 0, more]], x + self.boxes[n][0]
         font, size = self.fonts[self.spans[span][1]], self.spans[span][2]
         odd = self.level[p] % 2
         row = []
@@ -278,11 +283,11 @@ class Plain:
                 c = 45
             if odd:
                 c = {40: 41, 41: 40, 60: 62, 62: 60, 91: 93, 93: 91, 123: 125, 125: 123}.get(c, c)
-            row.append([font.chars.get(c, 0), p])
+            row.append([font.chars.get(c, 0), p, [p]])
         i = 0
         while i + 1 < len(row):
             if (row[i][0], row[i + 1][0]) in font.joins:
-                row[i:i + 2] = [[font.joins[row[i][0], row[i + 1][0]], row[i][1]]]
+                row[i:i + 2] = [[font.joins[row[i][0], row[i + 1][0]], row[i][1], row[i][2] + row[i + 1][2]]]
             else:
                 i += 1
         on = [None] * len(row)
@@ -302,19 +307,21 @@ class Plain:
         before = None
         stands = None
         for i in seen:
-            letter, place = row[i]
+            letter, place, chars = row[i]
+            room = font.scaled(font.width[letter], size)
+            placed = on[i] is not None or (room == 0 and letter in font.marks and len(out) > 0)
+            more = {"chars": chars, "room": room, "odd": odd, "placed": placed}
             if on[i] is not None:
                 kind, mx, my = font.marks[letter]
                 bx, by = font.bases[row[on[i]][0], kind]
                 out.append([span, letter, place, stands + font.scaled(bx, size) - font.scaled(mx, size),
-                            font.scaled(by, size) - font.scaled(my, size)])
+                            font.scaled(by, size) - font.scaled(my, size), more])
                 continue
             if before is not None:
                 two = (letter, before) if odd else (before, letter)
                 x += font.scaled(font.pairs.get(two, 0), size)
-            room = font.scaled(font.width[letter], size)
             stands = x
-            out.append([span, letter, place, x, 0])
+            out.append([span, letter, place, x, 0, more])
             x += room
             before = letter
         return out, x
@@ -354,7 +361,7 @@ class Plain:
         return sum_ + (10 ** 6 if self.text[q - 1] == 173 else 0)
 
     def way1(self, a, b, i):
-        """Each way is carried whole: its sum, its lines, and where its lines begin, empty ones too."""
+        """Each way is carried whole: its sum, where its lines begin (empty ones left out), and its lines."""
         ends = self.ends(a, b)
         states = {(a, i): (0, (), ())}
         final = None
@@ -363,13 +370,13 @@ class Plain:
             for (at, line) in sorted(s for s in states if s[0] == p):
                 total, begins, way = states[at, line]
                 j = self.line_for(line, p, first, p == a)
-                begins = (-p,) * (j - line + 1) + begins
+                begins = (-p,) + begins
                 for q in ends:
                     if q <= p:
                         continue
                     new = (total + self.cost(j, p, q, a, b), begins, way + ((j, p, q),))
                     if q == b:
-                        key = (new[0], len(begins), begins)
+                        key = (new[0], j, begins)
                         if final is None or key < final[0]:
                             final = key, new[2]
                     elif (q, j + 1) not in states or new[:2] < states[q, j + 1][:2]:
@@ -385,11 +392,11 @@ class Plain:
             p, line, total, way, begins = a, i, 0, [], []
             for q in stops:
                 j = self.line_for(line, p, [r for r in ends if r > p][0], p == a)
-                begins += [p] * (j - line + 1)
+                begins.append(p)
                 total += self.cost(j, p, q, a, b)
                 way.append((j, p, q))
                 p, line = q, j + 1
-            key = (total, len(begins), [-x for x in reversed(begins)])
+            key = (total, line, [-x for x in reversed(begins)])
             if best is None or key < best[0]:
                 best = key, way
         return best[1]
@@ -416,16 +423,19 @@ class Plain:
                 if rest > 0 and not last and blanks:
                     more = [rest // len(blanks) + (1 if n < rest % len(blanks) else 0) for n in range(len(blanks))]
                     for n, k in enumerate(blanks):
+                        letters[k][5] = dict(letters[k][5], added=more[n])
                         for g in letters[k + 1:]:
                             g[3] += more[n]
                     width += rest
                     rest = 0
-            begin = self.left(i) + (self.indent if first and side == 0 else 0)
-            if setting == 2:
-                begin += rest // 2
-            elif (setting == 0) == (side == 1):
-                begin += rest
+            begin = self.begin(i, first, side, setting, rest)
             yield i, p, q, begin, width, i * self.high + self.up, toobig, letters
+
+    def begin(self, i, first, side, setting, rest):
+        begin = self.left(i) + (self.indent if first and side == 0 else 0)
+        if setting == 2:
+            return begin + rest // 2
+        return begin + rest if (setting == 0) == (side == 1) else begin
 
     def lines(self, whole=False):
         rows = []
@@ -441,3 +451,63 @@ class Plain:
         rows = [[i, g[0], g[1], g[2], begin + g[3], y - g[4]]
                 for i, p, q, begin, width, y, toobig, got in self.laid() for g in got]
         return [len(rows)] + sum(rows, [])
+
+    def behind(self, letters, k):
+        """Behind a letter; behind a mark, and before it, that's behind what it's placed on, and it moves with what
+        the blanks up to it took more."""
+        b = k
+        while letters[b][5]["placed"]:
+            b -= 1
+        x, more = letters[b][3], letters[b][5]
+        if b < k:
+            x += sum(g[5].get("added", 0) for g in letters[b:k])
+            return x if letters[k][5]["odd"] else x + more["room"]
+        return x if more["odd"] else x + more["room"] + more.get("added", 0)
+
+    def before(self, letters, p):
+        """Before character p of a line, from its letters' beginning on; None if it has no letter."""
+        for k, g in enumerate(letters):
+            if p in g[5]["chars"]:
+                if g[5]["placed"]:
+                    return self.behind(letters, k)
+                room = g[5]["room"] + g[5].get("added", 0)
+                part = room * g[5]["chars"].index(p) // len(g[5]["chars"])
+                return g[3] + room - part if g[5]["odd"] else g[3] + part
+        return None
+
+    def stand(self, row, p):
+        """Where one stands in a laid line before p."""
+        i, a, b, begin, width, y, toobig, letters = row
+        x = self.before(letters, p) if p < b else None
+        if x is not None:
+            return begin + x
+        for q in range(p - 1, a - 1, -1):
+            for k, g in enumerate(letters):
+                if q in g[5]["chars"]:
+                    return begin + self.behind(letters, k)
+        side = [s for c, d, s in self.paras if c <= a < d][0]
+        return begin if side == 0 else begin + width
+
+    def caret(self, p):
+        n = len(self.text)
+        if p > n:
+            return [-5]
+        rows = list(self.laid())
+        if p == n and (n == 0 or self.text[-1] == 10):
+            i = rows[-1][0] + 1 if rows else 0
+            side = self.paras[-1][2] if rows else int(self.side == 1)
+            x = self.begin(i, True, side, 0 if self.setting == 3 else self.setting, self.room(i, True))
+        else:
+            row = [r for r in rows if r[1] <= p < r[2]] or rows[-1:]
+            i, x = row[0][0], self.stand(row[0], p)
+        return [i, x, i * self.high, (i + 1) * self.high]
+
+    def at(self, x, y):
+        rows = list(self.laid())
+        if not rows:
+            return [0]
+        row = ([r for r in rows if r[0] >= y // self.high] or rows[-1:])[0]
+        places = list(range(row[1], row[2]))
+        if row[2] == len(self.text) and self.text[-1] != 10:
+            places.append(row[2])
+        return [min(places, key=lambda p: (abs(self.stand(row, p) - x), p))]

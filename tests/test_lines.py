@@ -220,6 +220,39 @@ class WayOneTest(unittest.TestCase):
                          [(0, 2, 0, 10, 8, 0), (2, 2, 0, 0, 19, 0), (2, 4, 0, 40, 30, 0)])
         self.assertEqual(cuts_of("a bb a", wide=55, way=1, bands=bands), [(0, 5), (5, 6)])
 
+    def test_empty_lines_have_no_beginning(self):
+        # Letters of no width but the last, which doesn't fit in the lines that bands touch: every way costs nothing,
+        # and has as many lines. Empty lines aren't looked at where it's asked which line begins latest.
+        narrow = font("font 1 1 0 0", "letter n 0", "letter w 5", "char 119 w")
+
+        def cuts(text, lines_without_room, **named):
+            bands = [0, lines_without_room, 5, 0]
+            return cuts_of(text, wide=5, way=1, spans=[len(text), 0, 1], bands=bands, fonts=[narrow], **named)
+
+        self.assertEqual(cuts("a w", 1), [(0, 2), (2, 3)])
+        self.assertEqual(cuts("a a w", 1), [(0, 4), (4, 5)])
+        self.assertEqual(cuts("a a w", 2), [(0, 2), (2, 4), (4, 5)])
+        self.assertEqual(cuts("a a w", 4), [(0, 2), (2, 4), (4, 4), (4, 4), (4, 5)])
+        self.assertEqual(cuts("a a a w", 2), [(0, 4), (4, 6), (6, 7)])
+        self.assertEqual(cuts("a a a w", 3), [(0, 2), (2, 4), (4, 6), (6, 7)])
+        self.assertEqual(cuts("a\na a w", 3), [(0, 2), (2, 4), (4, 6), (6, 7)])
+        self.assertEqual(cuts("a\na a w", 2), [(0, 2), (2, 6), (6, 7)])
+
+    def test_ways_of_one_sum_through_several_bands(self):
+        # The letter v fits in line 2, w below line 5: before v there are two lines in any case, behind it three.
+        narrow = font("font 1 1 0 0", "letter n 0", "letter w 5", "letter v 2", "char 119 w", "char 118 v")
+        bands = [0, 2, 5, 0, 2, 3, 3, 0, 3, 6, 5, 0]
+        self.assertEqual(cuts_of("a a v a a w", wide=5, way=1, spans=[11, 0, 1], bands=bands, fonts=[narrow]),
+                         [(0, 2), (2, 4), (4, 6), (6, 8), (8, 10), (10, 10), (10, 11)])
+        self.assertEqual(cuts_of("a v a a a w", wide=5, way=1, spans=[11, 0, 1], bands=bands, fonts=[narrow]),
+                         [(0, 2), (2, 2), (2, 4), (4, 6), (6, 8), (8, 10), (10, 11)])
+
+    def test_least_sum_ahead_of_latest_beginning(self):
+        # With room 1 each line that is used costs 1 more, so only one is, though more would begin later.
+        narrow = font("font 1 1 0 0", "letter n 0", "letter w 5", "char 119 w")
+        self.assertEqual(cuts_of("a a a w", wide=5, way=1, spans=[7, 0, 1], bands=[0, 3, 4, 0], fonts=[narrow]),
+                         [(0, 6), (6, 6), (6, 6), (6, 7)])
+
     def test_bands_change_what_is_even(self):
         text = "aa aa a bb aa"
         bands = [0, 11, 0, 15]
