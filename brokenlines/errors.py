@@ -12,5 +12,9 @@ class WrongFont(ValueError):
         self.row = row
 
 
+class NoSuchPlace(ValueError):
+    pass
+
+
 class TooManyLines(ValueError):
     pass

@@ -48,7 +48,8 @@ def broken(script, column, way):
     return lines
 
 
-# Whether there are blanks to widen. A mark on a blank moves with what is behind the blank.
+# Whether there are blanks to widen. A mark on a blank moves with what is behind the blank; its spot stays as wide as
+# the blank was.
 def widened(script, shape, rest):
     count = len([glyph for glyph in shape.glyphs if script.codes[glyph.place] == 32])
     if count == 0:
@@ -56,12 +57,12 @@ def widened(script, shape, rest):
     over = rest % count
     added = 0
     for glyph in shape.glyphs:
-        glyph.x += added
+        glyph.move(added)
         if script.codes[glyph.place] == 32:
-            added += rest // count
-            if over > 0:
-                added += 1
-                over -= 1
+            more = rest // count + (1 if over > 0 else 0)
+            over -= 1
+            added += more
+            glyph.widen(more)
     shape.width += rest
     return True
 
@@ -87,10 +88,46 @@ def lay_line(script, column, setting, line):
 
 class Page:
     def __init__(self, work):
+        self.side = work.side
         self.setting = work.setting
         self.script = Script(work)
         self.column = Column(work)
         self.lines = broken(self.script, self.column, work.way)
+        self.stop = len(work.codes)
+
+    def laid_line(self, line):
+        return lay_line(self.script, self.column, self.setting, line)
 
     def laid_lines(self):
-        return [lay_line(self.script, self.column, self.setting, line) for line in self.lines]
+        return [self.laid_line(line) for line in self.lines]
+
+    # Whether one stands in a line of its own at the text's end.
+    def ends_with_line(self):
+        return self.stop == 0 or self.script.codes[-1] == 10
+
+    # The line at the text's end in which there is nothing: a paragraph would begin there.
+    def line_behind(self):
+        number = self.lines[-1].number + 1 if self.lines else 0
+        line = Line(number, self.stop, self.stop)
+        line.side = self.side % 2
+        if self.script.paragraphs:
+            line.side = self.script.paragraphs[-1].side
+        line.is_first = True
+        line.is_last = True
+        return line
+
+    # The line in which one stands before this place.
+    def line_with(self, place):
+        if place == self.stop and self.ends_with_line():
+            return self.line_behind()
+        for line in self.lines:
+            if place < line.stop:
+                return line
+        return self.lines[-1]
+
+    # The line that has this height, or the next that isn't empty, or the last.
+    def line_at(self, y):
+        for line in self.lines:
+            if y < self.column.top_of(line.number + 1):
+                return line
+        return self.lines[-1]

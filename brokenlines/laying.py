@@ -1,10 +1,12 @@
 """The calls: what is asked of a piece of work, answered as a list of whole numbers."""
 
-from brokenlines.errors import OutOfRange, TooManyLines, WrongFont
+from brokenlines.errors import NoSuchPlace, OutOfRange, TooManyLines, WrongFont
 from brokenlines.laid import Page
-from brokenlines.work import read_work
+from brokenlines.standing import stands_of
+from brokenlines.work import are_in, read_work
 
 MOST_LINES = 8192
+FARTHEST = 16777216
 
 
 def answered(call, five, spans, boxes, bands, text, fonts):
@@ -14,6 +16,8 @@ def answered(call, five, spans, boxes, bands, text, fonts):
         return [-8]
     except WrongFont as wrong:
         return [-2 - wrong.row - 100000 * wrong.number]
+    except NoSuchPlace:
+        return [-5]
     except TooManyLines:
         return [-6]
 
@@ -46,9 +50,42 @@ def told_letters(page):
     return [count] + answer
 
 
+def told_caret(page, place):
+    if place > page.stop:
+        raise NoSuchPlace()
+    line = page.line_with(place)
+    stands = stands_of(page.laid_line(line))
+    top = page.column.top_of(line.number)
+    return [line.number, stands[place - line.start], top, top + page.column.high]
+
+
+# A line's end is a place of it only where no line follows.
+def told_at(page, x, y):
+    if not page.lines:
+        return [0]
+    line = page.line_at(y)
+    stands = stands_of(page.laid_line(line))
+    if line.stop < page.stop or page.ends_with_line():
+        stands.pop()
+    distances = [abs(stand - x) for stand in stands]
+    return [line.start + distances.index(min(distances))]
+
+
 def lines(side, wide, indent, setting, way, spans, boxes, bands, text, fonts):
     return answered(told_lines, [side, wide, indent, setting, way], spans, boxes, bands, text, fonts)
 
 
 def letters(side, wide, indent, setting, way, spans, boxes, bands, text, fonts):
     return answered(told_letters, [side, wide, indent, setting, way], spans, boxes, bands, text, fonts)
+
+
+def caret(side, wide, indent, setting, way, p, spans, boxes, bands, text, fonts):
+    five = [side, wide, indent, setting, way]
+    return answered(lambda page: told_caret(page, p), five, spans, boxes, bands, text, fonts)
+
+
+def at(side, wide, indent, setting, way, x, y, spans, boxes, bands, text, fonts):
+    if not are_in([x, y], -FARTHEST, FARTHEST):
+        return [-8]
+    five = [side, wide, indent, setting, way]
+    return answered(lambda page: told_at(page, x, y), five, spans, boxes, bands, text, fonts)

@@ -3,13 +3,49 @@
 from brokenlines.signs import SOFT
 
 
+# A letter with the places of all characters that have been joined in it. Its spot is the room at which one stands
+# before it and behind it: its own, or that of what it counts as placed on.
 class Glyph:
     def __init__(self, owner, letter, place):
         self.owner = owner
         self.letter = letter
         self.place = place
+        self.places = [place]
         self.x = 0
         self.up = 0
+        self.is_odd = False
+        self.is_placed = False
+        self.spot = 0
+        self.room = 0
+
+    def stand(self, x, room):
+        self.x = x
+        self.spot = x
+        self.room = room
+
+    def stand_on(self, other):
+        self.is_placed = True
+        self.spot = other.spot
+        self.room = other.room
+
+    def move(self, steps):
+        self.x += steps
+        self.spot += steps
+
+    def widen(self, steps):
+        if not self.is_placed:
+            self.room += steps
+
+    # Where one stands behind it.
+    def edge_behind(self):
+        return self.spot if self.is_odd else self.spot + self.room
+
+    # Where one stands before the character with this number among its own.
+    def edge_ahead(self, number):
+        if self.is_placed:
+            return self.edge_behind()
+        share = self.room * number // len(self.places)
+        return self.spot + self.room - share if self.is_odd else self.spot + share
 
 
 class Shape:
@@ -77,6 +113,7 @@ def joined(font, glyphs):
         two = (before.letter, glyph.letter) if answer else None
         if two in font.joins:
             before.letter = font.joins[two]
+            before.places.append(glyph.place)
         else:
             answer.append(glyph)
             before = glyph
@@ -95,21 +132,27 @@ def grouped(font, glyphs):
 
 
 def place_marks(face, group):
+    head = group[0]
     for glyph in group[1:]:
-        offset = face.offset_of(group[0].letter, glyph.letter)
-        glyph.x = group[0].x + offset[0]
+        offset = face.offset_of(head.letter, glyph.letter)
+        glyph.x = head.x + offset[0]
         glyph.up = offset[1]
+        glyph.stand_on(head)
 
 
+# A mark of room 0 that isn't placed, and isn't the first, counts as placed on what is before it where one stands.
 def place_groups(face, groups, is_odd, shape):
     before = None
     for group in groups:
         head = group[0]
+        room = face.room_of(head.letter)
         if before is not None:
             shape.width += face.pair_of(head.letter, before) if is_odd else face.pair_of(before, head.letter)
-        head.x = shape.width
+        head.stand(shape.width, room)
+        if before is not None and room == 0 and head.letter in face.font.marks:
+            head.stand_on(shape.glyphs[-1])
         place_marks(face, group)
-        shape.width += face.room_of(head.letter)
+        shape.width += room
         shape.glyphs.extend(group)
         before = head.letter
 
@@ -117,20 +160,26 @@ def place_groups(face, groups, is_odd, shape):
 def place_box(script, place, shape):
     number = script.box_numbers[place]
     glyph = Glyph(script.owners[place], -1 - number, place)
-    glyph.x = shape.width
+    glyph.stand(shape.width, script.boxes[number].wide)
     shape.glyphs.append(glyph)
     shape.width += script.boxes[number].wide
+
+
+def shape_stretch(script, stretch, end, shape):
+    if stretch.start in script.box_numbers:
+        place_box(script, stretch.start, shape)
+        return
+    face = script.face_at(stretch.start)
+    groups = grouped(face.font, joined(face.font, letters_of(script, stretch, end)))
+    is_odd = stretch.level % 2 == 1
+    place_groups(face, groups[::-1] if is_odd else groups, is_odd, shape)
 
 
 def shape_line(script, start, stop):
     shape = Shape()
     end = script.end_of_letters(start, stop)
     for stretch in as_seen(stretches_of(script, start, end)):
-        if stretch.start in script.box_numbers:
-            place_box(script, stretch.start, shape)
-            continue
-        face = script.face_at(stretch.start)
-        groups = grouped(face.font, joined(face.font, letters_of(script, stretch, end)))
-        is_odd = stretch.level % 2 == 1
-        place_groups(face, groups[::-1] if is_odd else groups, is_odd, shape)
+        shape_stretch(script, stretch, end, shape)
+    for glyph in shape.glyphs:
+        glyph.is_odd = script.levels[glyph.place] % 2 == 1
     return shape

@@ -1,6 +1,6 @@
 """Pieces of work for the tests."""
 
-from brokenlines.laying import letters, lines
+from brokenlines.laying import at, caret, letters, lines
 
 ALEF, BET = 1488, 1489
 ACUTE, HAT = 769, 770
@@ -70,3 +70,27 @@ def letters_of(text, **named):
 
 def cuts_of(text, **named):
     return [row[:2] for row in lines_of(text, **named)]
+
+
+def caret_of(text, place, **named):
+    given = piece(text, **named)
+    return caret(*given[:5], place, *given[5:])
+
+
+def stands_of(text, **named):
+    """The line and x of each place, up to the text's end."""
+    return [tuple(caret_of(text, place, **named)[:2]) for place in range(len(codes(text)) + 1)]
+
+
+def xs_of(text, **named):
+    """The x of each place, all in line 0."""
+    found = stands_of(text, **named)
+    assert all(line == 0 for line, x in found), found
+    return [x for line, x in found]
+
+
+def at_of(text, x, y, **named):
+    given = piece(text, **named)
+    answer = at(*given[:5], x, y, *given[5:])
+    assert len(answer) == 1, answer
+    return answer[0]

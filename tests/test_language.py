@@ -27,7 +27,7 @@ NODES = (
     ast.Pass, ast.Raise, ast.Try, ast.ExceptHandler, ast.FunctionDef, ast.ClassDef, ast.ImportFrom, ast.alias,
     ast.arguments, ast.arg, ast.Constant, ast.Name, ast.Load, ast.Store, ast.List, ast.Tuple, ast.Dict, ast.BinOp,
     ast.UnaryOp, ast.Compare, ast.BoolOp, ast.IfExp, ast.Call, ast.Attribute, ast.Subscript, ast.Slice, ast.ListComp,
-    ast.comprehension, ast.keyword, ast.operator, ast.unaryop, ast.cmpop, ast.boolop,
+    ast.comprehension, ast.Lambda, ast.keyword, ast.operator, ast.unaryop, ast.cmpop, ast.boolop,
 )
 WALKED = ("zip", "enumerate", "reversed", "range")
 WALKERS = ("list", "tuple", "dict", "sorted", "sum", "any", "all", "enumerate", "zip", "min", "max")

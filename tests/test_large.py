@@ -4,7 +4,7 @@ import random
 import time
 import unittest
 
-from brokenlines.laying import letters, lines
+from brokenlines.laying import at, caret, letters, lines
 
 SECONDS = 20
 
@@ -39,14 +39,34 @@ def words():
 
 
 class LargeTest(unittest.TestCase):
+    turns = 0
+
+    def timed(self, call, *given):
+        start = time.monotonic()
+        answer = call(*given)
+        self.assertLess(time.monotonic() - start, SECONDS, call)
+        return answer
+
+    def shape(self, call, given):
+        """Whether the answer has the form that it should have."""
+        length = len(given[8])
+        if call == caret:
+            self.assertEqual(len(self.timed(call, *given[:5], length // 2, *given[5:])), 4)
+            return
+        if call == at:
+            answer = self.timed(call, *given[:5], 700, 30000, *given[5:])
+            self.assertTrue(len(answer) == 1 and 0 <= answer[0] <= length)
+            return
+        answer = self.timed(call, *given)
+        self.assertTrue(answer == [-6] or len(answer) == 1 + 6 * answer[0])
+
     def ends(self, text, wide, bands, font=FONT, side=2, spans=None, boxes=(), size=640):
-        for way in (0, 1):
+        # All calls break the text alike, so with way 1 two of them will do, by turns.
+        LargeTest.turns += 1
+        for way, calls in ((0, (lines, letters, caret, at)), (1, ((lines, caret), (letters, at))[self.turns % 2])):
             given = [side, wide, 100, 3, way, spans or [len(text), 0, size], list(boxes), bands, text, [font]]
-            for call in (lines, letters):
-                start = time.monotonic()
-                answer = call(*given)
-                self.assertLess(time.monotonic() - start, SECONDS, (call, way, wide))
-                self.assertTrue(answer == [-6] or len(answer) == 1 + 6 * answer[0])
+            for call in calls:
+                self.shape(call, given)
 
     def test_words(self):
         text = words()
@@ -92,6 +112,33 @@ class LargeTest(unittest.TestCase):
             given = [0, 0, 0, 0, way, [4096, 0, 1000], [], bands, [19968] * 4096, [FLAT]]
             self.assertEqual(lines(*given), [-6])
             self.assertEqual(letters(*given)[1], 2 ** 24)
+
+    def test_ways_of_one_sum(self):
+        # Letters of no width, and lines without room: every way to break them costs the same.
+        font_rows = ("font 1 1 0 0", "letter n 0", "letter w 5", "letter v 3", "char 119 w", "char 118 v")
+        narrow = font(*font_rows)
+        for text, wide, bands in (
+            ([97, 32] * 2047 + [119], 5, [0, 5000, 5, 0]),
+            ([97, 32] * 2047 + [119], 5, [0, 1000, 5, 0]),
+            ([19968] * 4094 + [32, 119], 5, [0, 4090, 5, 0]),
+            ([19968] * 4000 + [118, 32] * 48, 5, [0, 1000, 4, 0]),
+            (([19968] * 20 + [119, 32]) * 186, 5, sum([[20 * k, 20 * k + 10, 5, 0] for k in range(64)], [])),
+        ):
+            answer = self.timed(lines, 0, wide, 0, 0, 1, [len(text), 0, 1], [], bands, text, [narrow])
+            self.assertTrue(answer == [-6] or len(answer) == 1 + 6 * answer[0])
+        # All lines of an odd number of letters are as wide as there is room.
+        turns = font("font 1 1 0 0", "letter n 1", "letter b 1", "letter w 5", "char 19969 b", "pair n b -2", "char 119 w")
+        text = [19968, 19969] * 500 + [32, 119]
+        answer = self.timed(lines, 0, 5, 0, 0, 1, [len(text), 0, 1], [], [0, 5000, 4, 0], text, [turns])
+        self.assertEqual(len(answer), 1 + 6 * answer[0])
+
+    def test_places_in_long_lines(self):
+        for text in ([97] * 4096, [97, 32] * 2048, [1488] * 4096, [97, 1488] * 2048, [97, 769] * 2048):
+            given = [0, 2 ** 24, 0, 3, 1, [4096, 0, 640], [], [], text, [FONT]]
+            for place in (0, 1, 2048, 4095, 4096):
+                self.assertEqual(len(self.timed(caret, *given[:5], place, *given[5:])), 4)
+            for x in (-2 ** 24, 0, 1000000, 2 ** 24):
+                self.assertLessEqual(self.timed(at, *given[:5], x, 5, *given[5:])[0], 4096)
 
     def test_largest_fonts(self):
         rows = ["font 16384 32767 32767 32767"] + ["letter l%d 32767" % number for number in range(700)]

@@ -3,7 +3,7 @@
 import random
 import unittest
 
-from brokenlines.laying import letters, lines
+from brokenlines.laying import at, caret, letters, lines
 from plain import Plain
 
 MIXED = [97, 98, 99, 100, 32, 45, 40, 41, 48, 49, 173, 1488, 1489, 1490, 1600, 1601, 1632, 769, 1425, 19968, 19969,
@@ -64,6 +64,31 @@ def made_piece(seed, longest):
             made_spans(chance, len(text), len(fonts)), boxes, bands, text, fonts]
 
 
+def made_ties(seed, longest):
+    """Many ways of the same sum: letters of few widths, many of them 0, and lines without room."""
+    chance = random.Random(seed)
+    rows = ["font 1 1 0 0", "letter n 0", "letter w %d" % chance.choice([1, 2, 5]),
+            "letter v %d" % chance.choice([1, 2, 3]), "char 119 w", "char 118 v"]
+    rows += ["char 32 v"] * (chance.random() < 0.3) + ["pair w v -1"] * (chance.random() < 0.3)
+    pool = chance.choice([(97,), (97, 97, 97, 119), (97, 118, 119), (97, 97, 118, 118, 119), (118, 119)])
+    text = []
+    for _ in range(chance.randint(1, longest)):
+        text += [chance.choice(pool) for _ in range(chance.choice([1, 1, 1, 2]))] + [32]
+    text += [119] * (chance.random() < 0.7)
+    if chance.random() < 0.2:
+        text[chance.randrange(len(text))] = 10
+    wide = chance.choice([0, 1, 2, 5, 5, 5, 6, 10])
+    bands = []
+    top = 0
+    for _ in range(chance.randint(1, 6)):
+        top += chance.choice([0, 0, 1, 2])
+        high = chance.randint(1, 4)
+        bands += [top, top + high, chance.choice([0, 1, wide, wide]), chance.choice([0, 0, 1])]
+        top += high
+    return [chance.choice([0, 1]), wide, chance.choice([0, 0, 1]), 0, 1, [len(text), 0, 1], [], bands, text,
+            [list("".join(row + "\n" for row in rows).encode())]]
+
+
 class PlainTest(unittest.TestCase):
     def compare(self, seeds, longest):
         for seed in seeds:
@@ -80,6 +105,32 @@ class PlainTest(unittest.TestCase):
 
     def test_longer_texts(self):
         self.compare(range(5000, 5040), 70)
+
+    def test_where_one_stands(self):
+        for seed in range(20000, 20250):
+            given = made_piece(seed, 12)
+            wanted = Plain(*given)
+            for place in range(len(given[8]) + 2):
+                self.assertEqual(caret(*given[:5], place, *given[5:]), wanted.caret(place), (seed, place))
+
+    def test_what_stands_nearest(self):
+        for seed in range(30000, 30500):
+            given = made_piece(seed, 14)
+            wanted = Plain(*given)
+            chance = random.Random(seed)
+            for _ in range(5):
+                x, y = chance.randint(-30, given[1] % 500 + 40), chance.randint(-20, 150)
+                self.assertEqual(at(*given[:5], x, y, *given[5:]), wanted.at(x, y), (seed, x, y))
+
+    def test_ways_of_one_sum(self):
+        for seed in range(1500):
+            given = made_ties(seed, 8)
+            self.assertEqual(lines(*given), Plain(*given).lines(whole=True), seed)
+
+    def test_longer_ways_of_one_sum(self):
+        for seed in range(7000, 7150):
+            given = made_ties(seed, 40)
+            self.assertEqual(lines(*given), Plain(*given).lines(), seed)
 
     def test_joins_that_never_agree(self):
         rows = "font 10 8 2 1\nletter a 10\nletter b 17\nletter c 21\nletter d 13\n"
