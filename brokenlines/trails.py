@@ -1,8 +1,8 @@
 """Where lines came from, line by line down to the bands' end, so that ways can be gone back."""
 
 
-# Lines one behind another at which lines begin at one place. They were reached from as they are now: the lines that
-# are asked for lie so much further down.
+# Lines one behind another that may begin at one place. Ways are gone back from line to line: ahead is how much further
+# down the line lies from which this one was come to.
 class Spread:
     def __init__(self, low, high, ahead):
         self.low = low

@@ -265,6 +265,14 @@ class JustifiedTest(unittest.TestCase):
         self.assertEqual(stands_of(text, side=1, wide=32, setting=3, fonts=rows)[:5],
                          [(0, 32), (0, 17), (0, 22), (0, 10), (0, 0)])
 
+    def test_blank_that_is_a_mark_itself(self):
+        # Placed, or of room 0: before and behind it one stands behind what is before it, though it's widened.
+        rows = ["font 10 8 2 1", "letter a 10", "letter sp 5", "letter m 0", "char 97 a", "base a 0 9 9"]
+        text = [97, 32, SHY, 97, 32, 97, 97, 97]
+        for more in (["char 32 sp", "mark sp 0 0 0"], ["char 32 m", "mark m 1 0 0"]):
+            found = stands_of(text, wide=26, setting=3, fonts=[font(*rows, *more)])
+            self.assertEqual(found[:5], [(0, 0), (0, 10), (0, 10), (0, 16), (0, 26)])
+
     def test_last_line_is_not_widened(self):
         self.assertEqual(xs_of("a a", wide=40, setting=3), [0, 10, 15, 25])
 

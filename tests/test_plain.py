@@ -86,7 +86,46 @@ def made_ties(seed, longest):
         bands += [top, top + high, chance.choice([0, 1, wide, wide]), chance.choice([0, 0, 1])]
         top += high
     return [chance.choice([0, 1]), wide, chance.choice([0, 0, 1]), 0, 1, [len(text), 0, 1], [], bands, text,
-            [list("".join(row + "\n" for row in rows).encode())]]
+            rows_of(*rows)]
+
+
+def rows_of(*rows):
+    return [list("".join(row + "\n" for row in rows).encode())]
+
+
+def made_hyphens(seed, longest):
+    """Lines that cost about as much as a hyphen does, so that one begins now before it, now behind."""
+    chance = random.Random(seed)
+    rows = ["font 1 1 0 0", "letter n 0", "letter w %d" % chance.choice([500, 900, 1000]),
+            "letter v %d" % chance.choice([300, 600, 1200]), "char 119 w", "char 118 v"]
+    rows += ["pair w v -100"] * (chance.random() < 0.3)
+    text = []
+    for _ in range(chance.randint(2, longest)):
+        text += [chance.choice([97, 97, 119, 118]), chance.choice([32, 173, 173, 8203])]
+    wide = chance.choice([0, 500, 1000, 1500, 2000, 2500])
+    bands = []
+    top = chance.choice([0, 0, 1, 2])
+    for _ in range(chance.randint(1, 5)):
+        high = chance.randint(1, 4)
+        bands += [top, top + high, chance.choice([0, wide, wide // 2, 500, 1000]), 0]
+        top += high + chance.randint(0, 2)
+    return [0, wide, chance.choice([0, 0, 500]), 0, 1, [len(text), 0, 1], [], bands, text, rows_of(*rows)]
+
+
+def made_gaps(seed, longest):
+    """Letters that fit nowhere wait for the lines between bands; two of them in one line would cost more."""
+    chance = random.Random(seed)
+    text = []
+    for _ in range(chance.randint(2, longest)):
+        text += [chance.choice([97, 97, 97, 97, 119]), 32]
+    bands = []
+    top = chance.choice([0, 0, 1, 2])
+    for _ in range(chance.randint(1, 4)):
+        high = chance.randint(1, 6)
+        bands += [top, top + high, 0, 0]
+        top += high + chance.randint(1, 4)
+    rows = rows_of("font 1 0 0 0", "letter n 0", "letter w 32767", "char 119 w")
+    return [0, 0, 0, 0, 1, [len(text), 0, 4], [], bands, text, rows]
 
 
 class PlainTest(unittest.TestCase):
@@ -130,6 +169,20 @@ class PlainTest(unittest.TestCase):
     def test_longer_ways_of_one_sum(self):
         for seed in range(7000, 7150):
             given = made_ties(seed, 40)
+            self.assertEqual(lines(*given), Plain(*given).lines(), seed)
+
+    def test_lines_that_end_with_hyphens(self):
+        for seed in range(1200, 1600):
+            given = made_hyphens(seed, 9)
+            self.assertEqual(lines(*given), Plain(*given).lines(whole=True), seed)
+        for seed in range(10000, 10080):
+            given = made_hyphens(seed, 30)
+            self.assertEqual(lines(*given), Plain(*given).lines(), seed)
+
+    def test_lines_between_bands(self):
+        # With 20248 and the last four a line begins at one place both behind empty lines and straight behind the line before.
+        for seed in list(range(20000, 20300)) + [20441, 21160, 21237, 21264]:
+            given = made_gaps(seed, 20)
             self.assertEqual(lines(*given), Plain(*given).lines(), seed)
 
     def test_joins_that_never_agree(self):
