@@ -2,6 +2,8 @@
 
 from brokenlines.errors import NoSuchPlace, OutOfRange, TooManyLines, WrongFont
 from brokenlines.laid import Page
+from brokenlines.script import Script
+from brokenlines.shaping import shape_line
 from brokenlines.standing import stands_of
 from brokenlines.work import are_in, read_work
 
@@ -11,7 +13,7 @@ FARTHEST = 16777216
 
 def answered(call, five, spans, boxes, bands, text, fonts):
     try:
-        return call(Page(read_work(five, spans, boxes, bands, text, fonts)))
+        return call(read_work(five, spans, boxes, bands, text, fonts))
     except OutOfRange:
         return [-8]
     except WrongFont as wrong:
@@ -22,7 +24,8 @@ def answered(call, five, spans, boxes, bands, text, fonts):
         return [-6]
 
 
-def told_lines(page):
+def told_lines(work):
+    page = Page(work)
     if page.lines and page.lines[-1].number >= MOST_LINES:
         raise TooManyLines()
     answer = []
@@ -38,7 +41,8 @@ def told_lines(page):
     return [number] + answer
 
 
-def told_letters(page):
+def told_letters(work):
+    page = Page(work)
     answer = []
     count = 0
     for laid in page.laid_lines():
@@ -50,9 +54,10 @@ def told_letters(page):
     return [count] + answer
 
 
-def told_caret(page, place):
-    if place > page.stop:
+def told_caret(work, place):
+    if place > len(work.codes):
         raise NoSuchPlace()
+    page = Page(work)
     line = page.line_with(place)
     stands = stands_of(page.laid_line(line))
     top = page.column.top_of(line.number)
@@ -60,7 +65,8 @@ def told_caret(page, place):
 
 
 # A line's end is a place of it only where no line follows.
-def told_at(page, x, y):
+def told_at(work, x, y):
+    page = Page(work)
     if not page.lines:
         return [0]
     line = page.line_at(y)
@@ -69,6 +75,20 @@ def told_at(page, x, y):
         stands.pop()
     distances = [abs(stand - x) for stand in stands]
     return [line.start + distances.index(min(distances))]
+
+
+# Nothing is broken for this: what the column and its bands leave of lines has no part in it.
+def told_widths(work):
+    script = Script(work)
+    least = 0
+    most = 0
+    for paragraph in script.paragraphs:
+        most = max(most, shape_line(script, paragraph.start, paragraph.stop).width)
+        start = paragraph.start
+        for stop in script.line_ends(paragraph):
+            least = max(least, shape_line(script, start, stop).width)
+            start = stop
+    return [0, least, most]
 
 
 def lines(side, wide, indent, setting, way, spans, boxes, bands, text, fonts):
@@ -81,11 +101,15 @@ def letters(side, wide, indent, setting, way, spans, boxes, bands, text, fonts):
 
 def caret(side, wide, indent, setting, way, p, spans, boxes, bands, text, fonts):
     five = [side, wide, indent, setting, way]
-    return answered(lambda page: told_caret(page, p), five, spans, boxes, bands, text, fonts)
+    return answered(lambda work: told_caret(work, p), five, spans, boxes, bands, text, fonts)
 
 
 def at(side, wide, indent, setting, way, x, y, spans, boxes, bands, text, fonts):
     if not are_in([x, y], -FARTHEST, FARTHEST):
         return [-8]
     five = [side, wide, indent, setting, way]
-    return answered(lambda page: told_at(page, x, y), five, spans, boxes, bands, text, fonts)
+    return answered(lambda work: told_at(work, x, y), five, spans, boxes, bands, text, fonts)
+
+
+def widths(side, wide, indent, setting, way, spans, boxes, bands, text, fonts):
+    return answered(told_widths, [side, wide, indent, setting, way], spans, boxes, bands, text, fonts)

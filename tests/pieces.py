@@ -1,6 +1,6 @@
 """Pieces of work for the tests."""
 
-from brokenlines.laying import at, caret, letters, lines
+from brokenlines.laying import at, caret, letters, lines, widths
 
 ALEF, BET = 1488, 1489
 ACUTE, HAT = 769, 770
@@ -94,3 +94,9 @@ def at_of(text, x, y, **named):
     answer = at(*given[:5], x, y, *given[5:])
     assert len(answer) == 1, answer
     return answer[0]
+
+
+def widths_of(text, **named):
+    answer = widths(*piece(text, **named))
+    assert len(answer) == 3 and answer[0] == 0, answer
+    return tuple(answer[1:])

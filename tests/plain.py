@@ -511,3 +511,11 @@ class Plain:
         if row[2] == len(self.text) and self.text[-1] != 10:
             places.append(row[2])
         return [min(places, key=lambda p: (abs(self.stand(row, p) - x), p))]
+
+    def widths(self):
+        least, most = [0], [0]
+        for a, b, _ in self.paras:
+            most.append(self.width(a, b))
+            ends = self.ends(a, b)
+            least += [self.width(p, q) for p, q in zip([a] + ends, ends)]
+        return [0, max(least), max(most)]

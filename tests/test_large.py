@@ -4,7 +4,7 @@ import random
 import time
 import unittest
 
-from brokenlines.laying import at, caret, letters, lines
+from brokenlines.laying import at, caret, letters, lines, widths
 
 SECONDS = 20
 
@@ -58,12 +58,15 @@ class LargeTest(unittest.TestCase):
             self.assertTrue(len(answer) == 1 and 0 <= answer[0] <= length)
             return
         answer = self.timed(call, *given)
+        if call == widths:
+            self.assertTrue(len(answer) == 3 and answer[0] == 0 and min(answer) == 0)
+            return
         self.assertTrue(answer == [-6] or len(answer) == 1 + 6 * answer[0])
 
     def ends(self, text, wide, bands, font=FONT, side=2, spans=None, boxes=(), size=640):
         # All calls break the text alike, so with way 1 two of them will do, by turns.
         LargeTest.turns += 1
-        for way, calls in ((0, (lines, letters, caret, at)), (1, ((lines, caret), (letters, at))[self.turns % 2])):
+        for way, calls in ((0, (lines, letters, caret, at, widths)), (1, ((lines, caret), (letters, at))[self.turns % 2])):
             given = [side, wide, 100, 3, way, spans or [len(text), 0, size], list(boxes), bands, text, [font]]
             for call in calls:
                 self.shape(call, given)

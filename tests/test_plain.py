@@ -3,7 +3,7 @@
 import random
 import unittest
 
-from brokenlines.laying import at, caret, letters, lines
+from brokenlines.laying import at, caret, letters, lines, widths
 from plain import Plain
 
 MIXED = [97, 98, 99, 100, 32, 45, 40, 41, 48, 49, 173, 1488, 1489, 1490, 1600, 1601, 1632, 769, 1425, 19968, 19969,
@@ -160,6 +160,14 @@ class PlainTest(unittest.TestCase):
             for _ in range(5):
                 x, y = chance.randint(-30, given[1] % 500 + 40), chance.randint(-20, 150)
                 self.assertEqual(at(*given[:5], x, y, *given[5:]), wanted.at(x, y), (seed, x, y))
+
+    def test_how_wide(self):
+        for seed in range(40000, 41200):
+            given = made_piece(seed, 24)
+            self.assertEqual(widths(*given), Plain(*given).widths(), seed)
+        for seed in range(42000, 42100):
+            given = made_piece(seed, 120)
+            self.assertEqual(widths(*given), Plain(*given).widths(), seed)
 
     def test_ways_of_one_sum(self):
         for seed in range(1500):
