@@ -95,6 +95,10 @@ class Page:
         self.lines = broken(self.script, self.column, work.way)
         self.stop = len(work.codes)
 
+    # With those that are left empty, up to the last that isn't.
+    def lines_in_all(self):
+        return self.lines[-1].number + 1 if self.lines else 0
+
     def laid_line(self, line):
         return lay_line(self.script, self.column, self.setting, line)
 
@@ -107,8 +111,7 @@ class Page:
 
     # The line at the text's end in which there is nothing: a paragraph would begin there.
     def line_behind(self):
-        number = self.lines[-1].number + 1 if self.lines else 0
-        line = Line(number, self.stop, self.stop)
+        line = Line(self.lines_in_all(), self.stop, self.stop)
         line.side = self.side % 2
         if self.script.paragraphs:
             line.side = self.script.paragraphs[-1].side

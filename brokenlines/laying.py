@@ -26,7 +26,7 @@ def answered(call, five, spans, boxes, bands, text, fonts):
 
 def told_lines(work):
     page = Page(work)
-    if page.lines and page.lines[-1].number >= MOST_LINES:
+    if page.lines_in_all() > MOST_LINES:
         raise TooManyLines()
     answer = []
     number = 0
@@ -91,6 +91,12 @@ def told_widths(work):
     return [0, least, most]
 
 
+def told_heights(work):
+    page = Page(work)
+    column = page.column
+    return [0, column.high, column.up, column.down, column.gap, column.top_of(page.lines_in_all())]
+
+
 def lines(side, wide, indent, setting, way, spans, boxes, bands, text, fonts):
     return answered(told_lines, [side, wide, indent, setting, way], spans, boxes, bands, text, fonts)
 
@@ -113,3 +119,7 @@ def at(side, wide, indent, setting, way, x, y, spans, boxes, bands, text, fonts)
 
 def widths(side, wide, indent, setting, way, spans, boxes, bands, text, fonts):
     return answered(told_widths, [side, wide, indent, setting, way], spans, boxes, bands, text, fonts)
+
+
+def heights(side, wide, indent, setting, way, spans, boxes, bands, text, fonts):
+    return answered(told_heights, [side, wide, indent, setting, way], spans, boxes, bands, text, fonts)

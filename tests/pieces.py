@@ -1,6 +1,6 @@
 """Pieces of work for the tests."""
 
-from brokenlines.laying import at, caret, letters, lines, widths
+from brokenlines.laying import at, caret, heights, letters, lines, widths
 
 ALEF, BET = 1488, 1489
 ACUTE, HAT = 769, 770
@@ -99,4 +99,10 @@ def at_of(text, x, y, **named):
 def widths_of(text, **named):
     answer = widths(*piece(text, **named))
     assert len(answer) == 3 and answer[0] == 0, answer
+    return tuple(answer[1:])
+
+
+def heights_of(text, **named):
+    answer = heights(*piece(text, **named))
+    assert len(answer) == 6 and answer[0] == 0, answer
     return tuple(answer[1:])

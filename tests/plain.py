@@ -519,3 +519,7 @@ class Plain:
             ends = self.ends(a, b)
             least += [self.width(p, q) for p, q in zip([a] + ends, ends)]
         return [0, max(least), max(most)]
+
+    def heights(self):
+        many = max([row[0] + 1 for row in self.broken()], default=0)
+        return [0, self.high, self.up, self.down, self.gap, many * self.high]

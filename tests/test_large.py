@@ -4,9 +4,10 @@ import random
 import time
 import unittest
 
-from brokenlines.laying import at, caret, letters, lines, widths
+from brokenlines.laying import at, caret, heights, letters, lines, widths
 
 SECONDS = 20
+CALLS = (lines, letters, caret, at, widths, heights)
 
 
 def font(*rows):
@@ -58,15 +59,16 @@ class LargeTest(unittest.TestCase):
             self.assertTrue(len(answer) == 1 and 0 <= answer[0] <= length)
             return
         answer = self.timed(call, *given)
-        if call == widths:
-            self.assertTrue(len(answer) == 3 and answer[0] == 0 and min(answer) == 0)
+        if call in (widths, heights):
+            self.assertTrue(len(answer) == (3 if call == widths else 6) and answer[0] == 0 and min(answer) == 0)
             return
         self.assertTrue(answer == [-6] or len(answer) == 1 + 6 * answer[0])
 
     def ends(self, text, wide, bands, font=FONT, side=2, spans=None, boxes=(), size=640):
         # All calls break the text alike, so with way 1 two of them will do, by turns.
         LargeTest.turns += 1
-        for way, calls in ((0, (lines, letters, caret, at, widths)), (1, ((lines, caret), (letters, at))[self.turns % 2])):
+        by_turns = ((lines, caret), (letters, widths), (heights, at))
+        for way, calls in ((0, CALLS), (1, by_turns[self.turns % 3])):
             given = [side, wide, 100, 3, way, spans or [len(text), 0, size], list(boxes), bands, text, [font]]
             for call in calls:
                 self.shape(call, given)
@@ -150,6 +152,13 @@ class LargeTest(unittest.TestCase):
         self.assertLess(len(data), 29000)
         given = [0, 5, 0, 3, 1, [4096, 3, 65536], [], [], [19968, 97] * 2048, [data] * 4]
         self.assertGreater(lines(*given)[0], 0)
+        # All that may be handed in at once: spans, some of no characters, boxes, bands, and four fonts.
+        spans = sum([[1, place % 4, 1 + place * 16] for place in range(4096)], []) + [0, 1, 65536] * 104
+        text = ([65532, 32, 97, 19968, 1488, 173, 49, 10] * 512)[:-1] + [8203]
+        for way in (0, 1):
+            given = [2, 2 ** 24, 2 ** 20, 3, way, spans, [2 ** 20] * 1536, made_bands(2, 2 ** 24, 2 ** 23), text, [data] * 4]
+            for call in CALLS:
+                self.shape(call, given)
 
 
 if __name__ == "__main__":

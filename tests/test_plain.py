@@ -3,7 +3,7 @@
 import random
 import unittest
 
-from brokenlines.laying import at, caret, letters, lines, widths
+from brokenlines.laying import at, caret, heights, letters, lines, widths
 from plain import Plain
 
 MIXED = [97, 98, 99, 100, 32, 45, 40, 41, 48, 49, 173, 1488, 1489, 1490, 1600, 1601, 1632, 769, 1425, 19968, 19969,
@@ -168,6 +168,15 @@ class PlainTest(unittest.TestCase):
         for seed in range(42000, 42100):
             given = made_piece(seed, 120)
             self.assertEqual(widths(*given), Plain(*given).widths(), seed)
+
+    def test_how_high(self):
+        for seed in range(50000, 50800):
+            given = made_piece(seed, 24)
+            answer = heights(*given)
+            self.assertEqual(answer, Plain(*given).heights(), seed)
+            count = lines(*given)[0]
+            if count != -6:
+                self.assertEqual(answer[5], count * answer[1], seed)
 
     def test_ways_of_one_sum(self):
         for seed in range(1500):

@@ -2,7 +2,7 @@
 
 import unittest
 
-from brokenlines.laying import at, caret, letters, lines, widths
+from brokenlines.laying import at, caret, heights, letters, lines, widths
 from pieces import BOX, FONT, at_of, caret_of, font, piece
 
 WRONG = font("font 10 8 2 1", "letter a 5", "lettre b 5")
@@ -15,14 +15,16 @@ class RefusalTest(unittest.TestCase):
         self.assertEqual(caret_of(text, 0, **named), [expected])
         self.assertEqual(at_of(text, 0, 0, **named), expected)
         self.assertEqual(widths(*piece(text, **named)), [expected])
+        self.assertEqual(heights(*piece(text, **named)), [expected])
 
     def right(self, text, **named):
         self.assertGreaterEqual(lines(*piece(text, **named))[0], 0)
         self.assertGreaterEqual(letters(*piece(text, **named))[0], 0)
         self.assertEqual(len(caret_of(text, 0, **named)), 4)
         self.assertGreaterEqual(at_of(text, 0, 0, **named), 0)
-        answer = widths(*piece(text, **named))
-        self.assertTrue(len(answer) == 3 and answer[0] == 0 and min(answer) == 0, answer)
+        for call, count in ((widths, 3), (heights, 6)):
+            answer = call(*piece(text, **named))
+            self.assertTrue(len(answer) == count and answer[0] == 0 and min(answer) == 0, answer)
 
     def test_single_numbers(self):
         for name, most in (("side", 2), ("wide", 2 ** 24), ("indent", 2 ** 20), ("setting", 3), ("way", 1)):
@@ -161,7 +163,8 @@ class TooManyLinesTest(unittest.TestCase):
 
 class UnchangedTest(unittest.TestCase):
     def test_as_it_was_and_answered_alike(self):
-        for call, more in ((lines, ()), (letters, ()), (caret, (9,)), (caret, (13,)), (at, (7, 30)), (widths, ())):
+        for call, more in ((lines, ()), (letters, ()), (caret, (9,)), (caret, (13,)), (at, (7, 30)), (widths, ()),
+                           (heights, ())):
             for way in (0, 1):
                 given = piece([97, 32, 97, BOX, 32, 98, 10, 1488, 97, 32, 49, 173, 98], side=2, wide=40, setting=3,
                               way=way, spans=[4, 0, 10, 9, 1, 12], boxes=[5, 20, 3], bands=[0, 30, 5, 4],
