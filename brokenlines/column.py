@@ -1,5 +1,7 @@
 """The column: how high lines are, and what bands leave of them."""
 
+from brokenlines.counting import count_below
+
 
 # Lines one behind another from which the bands take the same.
 class Slice:
@@ -21,7 +23,8 @@ class Column:
         self.gap = max([face.scaled(face.font.gap) for face in work.faces], default=0)
         self.high = max(self.up + self.down + self.gap, 1)
         self.slices = slices_of(work.bands, self.high)
-        self.free = self.slices[-1].first
+        self.edges = [part.first for part in self.slices]
+        self.free = self.edges[-1]
 
     def top_of(self, line):
         return line * self.high
@@ -31,15 +34,7 @@ class Column:
 
     # The index of the slice that has the line.
     def slice_at(self, line):
-        low = 0
-        high = len(self.slices) - 1
-        while low < high:
-            middle = (low + high + 1) // 2
-            if self.slices[middle].first <= line:
-                low = middle
-            else:
-                high = middle - 1
-        return low
+        return count_below(self.edges, line + 1) - 1
 
     def left_of(self, line):
         return self.slices[self.slice_at(line)].left
@@ -59,6 +54,10 @@ class Column:
         while self.slices[index].is_touched == part.is_touched and self.room_in(self.slices[index], False) == room:
             index += 1
         return self.slices[index].first
+
+    # Whether a line from this one on has so much room, if it isn't a paragraph's first.
+    def has_room_from(self, line, room):
+        return any([self.room_in(part, False) == room for part in self.slices[self.slice_at(line):]])
 
     # The first line from this one on that isn't left empty, if it begins with so wide a stretch.
     def line_for(self, line, width, is_first):

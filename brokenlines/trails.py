@@ -1,5 +1,7 @@
 """Where lines came from, line by line down to the bands' end, so that ways can be gone back."""
 
+from brokenlines.counting import count_below
+
 
 # Lines one behind another that may begin at one place. Ways are gone back from line to line: ahead is how much further
 # down the line lies from which this one was come to.
@@ -21,19 +23,6 @@ def spreads_of(lines):
     return spreads
 
 
-# The index of the last of the numbers, which go up, that isn't above the most.
-def last_within(numbers, most):
-    low = 0
-    high = len(numbers) - 1
-    while low < high:
-        middle = (low + high + 1) // 2
-        if numbers[middle] <= most:
-            low = middle
-        else:
-            high = middle - 1
-    return low
-
-
 # For each place the lines from which on the line before begins elsewhere, and where: from line to line that is mostly
 # the same. Jumps are over lines that were left empty.
 class Trail:
@@ -42,11 +31,16 @@ class Trail:
         self.befores = {}
         self.jumps = {}
 
-    def keep(self, line, start, before):
-        befores = self.befores.setdefault(start, [])
-        if not befores or befores[-1] != before:
-            self.lines.setdefault(start, []).append(line)
-            befores.append(before)
+    # Of each start and the beginning of the line before it.
+    def keep_all(self, line, kept):
+        for start, before in kept:
+            befores = self.befores.get(start)
+            if befores is None:
+                self.lines[start] = [line]
+                self.befores[start] = [before]
+            elif befores[-1] != before:
+                self.lines[start].append(line)
+                befores.append(before)
 
     def keep_jump(self, line, start, before, line_before):
         self.jumps[(line, start)] = line_before
@@ -54,13 +48,13 @@ class Trail:
         self.befores.setdefault(start, []).append(before)
 
     def line_before(self, line, start):
-        index = last_within(self.lines[start], line)
+        index = count_below(self.lines[start], line + 1) - 1
         return (self.jumps.get((line, start), line - 1), self.befores[start][index])
 
     # What a spread was reached from: for each part of it the place, and the lines there.
     def parts_of(self, start, spread):
         lines = self.lines[start]
-        index = last_within(lines, spread.low)
+        index = count_below(lines, spread.low + 1) - 1
         parts = []
         low = spread.low
         while low <= spread.high:

@@ -5,6 +5,7 @@ import time
 import unittest
 
 from brokenlines.laying import at, caret, heights, letters, lines, widths
+from rough import made_rough
 
 SECONDS = 20
 CALLS = (lines, letters, caret, at, widths, heights)
@@ -136,6 +137,21 @@ class LargeTest(unittest.TestCase):
         text = [19968, 19969] * 500 + [32, 119]
         answer = self.timed(lines, 0, 5, 0, 0, 1, [len(text), 0, 1], [], [0, 5000, 4, 0], text, [turns])
         self.assertEqual(len(answer), 1 + 6 * answer[0])
+
+    def test_rough_texts(self):
+        for seed in (1153, 1519, 1689, 1955, 2024, 2548, 5018, 6515):
+            self.shape(CALLS[seed % 4], made_rough(seed))
+
+    # Lines of few letters that are not all as wide, beside one band and beside many.
+    def test_letters_of_several_widths(self):
+        chance = random.Random(11)
+        rows = ["letter l%d %d" % (number, chance.randint(300, 1000)) for number in range(8)]
+        rows += ["char %d l%d" % (19968 + number, number) for number in range(8)]
+        several = font("font 1000 800 200 100", *rows)
+        text = [19968 + chance.randrange(8) for _ in range(4096)]
+        for wide in (700, 1500, 10000):
+            for bands in ([0, 500000, wide // 3, 0], [0, 2 ** 24, wide // 3, 0], made_bands(4, 1000000, wide)):
+                self.ends(text, wide, bands, font=several)
 
     def test_places_in_long_lines(self):
         for text in ([97] * 4096, [97, 32] * 2048, [1488] * 4096, [97, 1488] * 2048, [97, 769] * 2048):

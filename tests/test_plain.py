@@ -5,6 +5,7 @@ import unittest
 
 from brokenlines.laying import at, caret, heights, letters, lines, widths
 from plain import Plain
+from rough import made_rough
 
 MIXED = [97, 98, 99, 100, 32, 45, 40, 41, 48, 49, 173, 1488, 1489, 1490, 1600, 1601, 1632, 769, 1425, 19968, 19969,
          8203, 160, 46, 65532, 8294, 8295, 8296, 8297, 10]
@@ -201,6 +202,14 @@ class PlainTest(unittest.TestCase):
         for seed in list(range(20000, 20300)) + [20441, 21160, 21237, 21264]:
             given = made_gaps(seed, 20)
             self.assertEqual(lines(*given), Plain(*given).lines(), seed)
+
+    def test_rough_texts(self):
+        for seeds, longest in ((range(0, 120), 40), (range(1000, 1030), 60)):
+            for seed in seeds:
+                given = made_rough(seed, longest)
+                answer = lines(*given)
+                if answer != [-6]:
+                    self.assertEqual(answer, Plain(*given).lines(), seed)
 
     def test_joins_that_never_agree(self):
         rows = "font 10 8 2 1\nletter a 10\nletter b 17\nletter c 21\nletter d 13\n"
